@@ -56,16 +56,16 @@ func turnBehind(b api.Block) uint32 {
 	return binary.LittleEndian.Uint32(b[56:]) + 1
 }
 
-// mayBe is whether a patch's kind and place are such as chapter 14 lets be.
+// mayBe is whether a patch's kind and place are such as chapter 14 lets be; one without bytes has a place, too.
 func mayBe(p api.Patch) bool {
 	most := 64
 	if p.Kind != 0 {
 		most = 54
 	}
-	if p.Kind < 0 || p.Kind > 6 || len(p.Data) == 0 || len(p.Data) > most {
+	if p.Kind < 0 || p.Kind > 6 || len(p.Data) > most {
 		return false
 	}
-	return p.Off >= 0 && p.Off < most && p.Off+len(p.Data) <= most
+	return p.Off >= 0 && p.Off <= most && p.Off+len(p.Data) <= most
 }
 
 // laid is b with p over it, by the chapter's words, p's bytes gone over one by one.
@@ -196,16 +196,16 @@ func (d *dice) block() api.Block {
 	return sealed(1+d.below(6), turns[d.below(len(turns))], d.load())
 }
 
-// patch is one that may be, of one of kinds.
+// patch is one that may be, of one of kinds; now and then without bytes.
 func (d *dice) patch(id int, kinds ...int) api.Patch {
 	p := api.Patch{Id: id, Kind: kinds[d.below(len(kinds))]}
 	most := 64
 	if p.Kind != 0 {
 		most = 54
 	}
-	n := 1 + d.below(6)
+	n := d.below(7)
 	if d.below(8) == 0 {
-		n = 1 + d.below(most)
+		n = d.below(most + 1)
 	}
 	p.Data = d.bytes(n)
 	p.Off = d.below(most - n + 1)
@@ -220,7 +220,7 @@ func (d *dice) wrong(p api.Patch) api.Patch {
 	case 1:
 		p.Off = -1 - d.below(3)
 	case 2:
-		p.Data = nil
+		p.Data, p.Off = nil, 65+d.below(3)
 	default:
 		p.Off = 65 - len(p.Data)
 	}
@@ -315,7 +315,7 @@ func parts(t *testing.T, b api.Block, l []api.Patch, raw bool) int {
 	return n
 }
 
-// 15.3: each list of three patches at small places, of one kind or of several, over each sort of sector.
+// 15.3: each list of three patches at small places, of one kind or of several, with bytes and without, over each sort of sector.
 func TestBackAndForwardOfThree(t *testing.T) {
 	d := dice(15)
 	from := []api.Block{api.Block(d.bytes(64)), sealed(4, 9, d.load()), sealed(6, 1<<32-1, d.load())}
@@ -324,10 +324,11 @@ func TestBackAndForwardOfThree(t *testing.T) {
 		for off := range 3 {
 			pool = append(pool, api.Patch{Off: off, Data: d.bytes(2), Kind: kind})
 		}
+		pool = append(pool, api.Patch{Off: 1, Kind: kind})
 	}
-	fewer := 0
-	for k := range len(pool) * len(pool) * len(pool) {
-		l := []api.Patch{pool[k%9], pool[k/9%9], pool[k/81]}
+	fewer, n := 0, len(pool)
+	for k := range n * n * n {
+		l := []api.Patch{pool[k%n], pool[k/n%n], pool[k/n/n]}
 		for i := range l {
 			l[i].Id = i + 1
 		}

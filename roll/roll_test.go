@@ -59,6 +59,9 @@ func TestLay(t *testing.T) {
 				{Kind: kind, Off: 20, Data: []byte{1, 0, 3}},
 				{Kind: kind, Data: full(most)},
 				{Kind: kind, Data: make([]byte, most)},
+				{Kind: kind},
+				{Kind: kind, Off: 20, Data: []byte{}},
+				{Kind: kind, Off: most},
 			} {
 				for _, turn := range []uint32{0, 1, 77, math.MaxUint32} {
 					got, e := roll.Lay(b, p, turn)
@@ -89,7 +92,7 @@ func TestLayByHand(t *testing.T) {
 	same(t, "raw", b, e, raw, api.OK)
 }
 
-// 15.1: at each kind, each place and each length: which patches may be, and the bytes as they were with those that may not.
+// 15.1: at each kind, each place and each length, none among them: which patches may be, and the bytes as they were with those that may not.
 func TestEveryPlace(t *testing.T) {
 	b := sealed(4, 5, api.Load(full(54)))
 	for kind := -1; kind <= 7; kind++ {
@@ -104,6 +107,58 @@ func TestEveryPlace(t *testing.T) {
 			}
 		}
 	}
+}
+
+// 15.1: a patch without bytes, at each place that may be: a raw one leaves the bytes as they are, one of another kind seals the load, or noughts.
+func TestLayWithoutBytes(t *testing.T) {
+	for _, b := range sectors() {
+		for _, none := range [][]byte{nil, {}} {
+			for off := 0; off <= 64; off++ {
+				got, e := roll.Lay(b, api.Patch{Off: off, Data: none}, 77)
+				same(t, "raw", got, e, b, api.OK)
+			}
+			for kind := 1; kind <= 6; kind++ {
+				want := sealed(kind, 77, loadOf(b, kind))
+				for off := 0; off <= 54; off++ {
+					got, e := roll.Lay(b, api.Patch{Off: off, Data: none, Kind: kind}, 77)
+					same(t, "sealed", got, e, want, api.OK)
+				}
+			}
+		}
+	}
+}
+
+// 15.2: rolls go on with the patches behind one without bytes; alone, too, one of a sealed kind brings a turn, and a raw one does not.
+func TestRollsWithoutBytes(t *testing.T) {
+	b := sealed(4, 5, api.Load{7, 8, 9})
+	l := []api.Patch{
+		{Id: 1, Kind: 4, Off: 54},
+		{Id: 2, Kind: 4, Off: 1, Data: []byte{1}},
+		{Id: 3, Kind: 4, Data: []byte{}},
+		{Id: 4, Kind: 4, Off: 2, Data: []byte{2}},
+	}
+	got, e := roll.Now(b, l)
+	same(t, "Now", got, e, sealed(4, 6, api.Load{7, 1, 2}), api.OK)
+	got, e = roll.Some(b, l, []int{1, 3})
+	same(t, "Some of those without bytes", got, e, sealed(4, 6, api.Load{7, 8, 9}), api.OK)
+	got, e = roll.Some(b, l, []int{3, 4})
+	same(t, "Some", got, e, sealed(4, 6, api.Load{7, 8, 2}), api.OK)
+	if rest := roll.Without(l, []int{2, 4}); len(rest) != 2 || !alike(rest[0], l[0]) || !alike(rest[1], l[2]) {
+		t.Errorf("Without: %v", rest)
+	}
+	raw := []api.Patch{{Id: 1}, {Id: 2, Off: 64}}
+	got, e = roll.Now(b, raw)
+	same(t, "raw ones alone", got, e, b, api.OK)
+	got, e = roll.Some(b, raw, []int{2})
+	same(t, "some raw ones alone", got, e, b, api.OK)
+	got, e = roll.Now(b, append(raw, l...))
+	same(t, "behind raw ones", got, e, sealed(4, 6, api.Load{7, 1, 2}), api.OK)
+	// One of another kind takes the load away, whatever comes behind it.
+	got, e = roll.Now(b, append([]api.Patch{{Id: 5, Kind: 6}}, l...))
+	same(t, "behind another kind", got, e, sealed(4, 6, api.Load{1: 1, 2: 2}), api.OK)
+	// A wrong one behind it is still the error.
+	got, e = roll.Now(b, []api.Patch{l[0], l[1], {Kind: 4, Off: 55}})
+	same(t, "a wrong one behind", got, e, b, api.ErrArg)
 }
 
 // wrongs are patches that may not be.
@@ -126,10 +181,17 @@ func wrongs() []api.Patch {
 		api.Patch{Data: full(100000), Kind: 6},
 		api.Patch{Off: math.MaxInt, Data: full(100000)},
 		api.Patch{Off: math.MinInt, Data: full(100000)},
-		api.Patch{},
-		api.Patch{Data: []byte{}, Off: 3},
-		api.Patch{Off: 64},
-		api.Patch{Off: 54, Kind: 4},
+		api.Patch{Off: -1},
+		api.Patch{Off: 65, Data: []byte{}},
+		api.Patch{Off: math.MinInt},
+		api.Patch{Off: math.MaxInt},
+		api.Patch{Off: -1, Kind: 4},
+		api.Patch{Off: 55, Kind: 4},
+		api.Patch{Off: 64, Kind: 6},
+		api.Patch{Off: math.MinInt, Kind: 4},
+		api.Patch{Off: math.MaxInt, Kind: 4},
+		api.Patch{Kind: -1},
+		api.Patch{Kind: 7},
 	)
 }
 
