@@ -130,10 +130,7 @@ func (m *model) load(sector, kind int) (api.Load, api.Errno) {
 	if e != api.OK {
 		return api.Load{}, e
 	}
-	if kind < 1 || kind > 6 {
-		return api.Load{}, api.ErrArg
-	}
-	if seal.Kind(b) != kind {
+	if kind < 1 || kind > 6 || seal.Kind(b) != kind {
 		return api.Load{}, api.ErrSeal
 	}
 	return api.Load(b[:api.Payload]), api.OK

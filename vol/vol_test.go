@@ -6,8 +6,10 @@ import (
 	"testing"
 
 	"scupper/api"
+	"scupper/crc"
 	"scupper/disk"
 	"scupper/maps"
+	"scupper/num"
 	"scupper/nvram"
 	"scupper/power"
 	"scupper/seal"
@@ -23,6 +25,9 @@ var shape = api.Geom{Groups: 2, Inodes: 1, Data: 6}
 
 // strange is numbers of sectors that there are not.
 var strange = []int{math.MinInt, -1, sectors, sectors + 1, api.MaxSectors - 1, api.MaxSectors, math.MaxInt}
+
+// noKinds is kinds of which no sector is right, such as are one in their lowest byte among them.
+var noKinds = []int{math.MinInt, -252, -250, -1, 0, 7, 8, 255, 256, 256 + api.KindMaps, 256 + api.KindInode, math.MaxInt}
 
 func sealed(kind int, p api.Load) api.Block {
 	b, _ := seal.Put(kind, 1, p)
@@ -290,7 +295,7 @@ func TestNoSector(t *testing.T) {
 		if b, e := r.v.Now(at); b != (api.Block{}) || e != api.ErrArg {
 			t.Errorf("Now(%d): %v", at, e)
 		}
-		for _, kind := range []int{-1, 0, 3, 7} {
+		for _, kind := range append(noKinds, api.KindMaps) {
 			if p, e := r.v.Load(at, kind); p != (api.Load{}) || e != api.ErrArg {
 				t.Errorf("Load(%d, %d): %v", at, kind, e)
 			}
@@ -347,11 +352,7 @@ func TestLoad(t *testing.T) {
 				t.Errorf("Load(%d, %d): %v, want %v", at, kind, e, api.ErrSeal)
 			}
 		}
-		for _, kind := range []int{math.MinInt, -1, 0, 7, math.MaxInt} {
-			if p, e := r.v.Load(at, kind); p != (api.Load{}) || e != api.ErrArg {
-				t.Errorf("Load(%d, %d): %v, want %v", at, kind, e, api.ErrArg)
-			}
-		}
+		r.noLoads(at)
 	}
 	r.patch(5, 1, 8, api.KindDir)
 	r.same("made right", r.load(5, api.KindDir), api.Load{1: 8})
@@ -359,6 +360,64 @@ func TestLoad(t *testing.T) {
 	if p, e := r.v.Load(3, api.KindMaps); p != (api.Load{}) || e != api.ErrSeal {
 		t.Errorf("made wrong: %v, %v", p, e)
 	}
+	r.noLoads(5)
+	r.noLoads(3)
+}
+
+// noLoads asks for loads of a sector that there is, as kinds of which none is right.
+func (r *rig) noLoads(at int) {
+	r.t.Helper()
+	for _, kind := range noKinds {
+		if p, e := r.v.Load(at, kind); p != (api.Load{}) || e != api.ErrSeal {
+			r.t.Errorf("Load(%d, %d): %v, %v, want noughts and %v", at, kind, p, e, api.ErrSeal)
+		}
+	}
+}
+
+// 17.1: bytes that are as if sealed, of a kind that is none, are right of none: on the disk, by patches, and when these are stable.
+func TestLoadOfNoKind(t *testing.T) {
+	l := blank()
+	for i, kind := range []byte{0, 7, 8, 255} {
+		l[5+i] = sealedAs(kind)
+	}
+	r := of(t, 3, l)
+	r.same("as if sealed", seal.Kind(sealedAs(api.KindDir)), api.KindDir)
+	b := sealedAs(7)
+	if _, e := r.v.Patch(api.Patch{At: 9, Data: b[:]}); e != api.OK {
+		t.Fatalf("Patch: %v", e)
+	}
+	for at := 5; at < 10; at++ {
+		r.noLoads(at)
+	}
+	r.same("Sync", r.v.Sync(), api.OK)
+	r.noLoads(9)
+}
+
+// sealedAs is a load of ones with a seal of that kind, be it one or none.
+func sealedAs(kind byte) api.Block {
+	var b api.Block
+	for i := range api.Payload {
+		b[i] = 1
+	}
+	b[54], b[55], b[56] = kind, 255-kind, 1
+	n := num.Put32(crc.Of(b[:60]))
+	copy(b[60:], n[:])
+	return b
+}
+
+// 17.1: a load as a kind that is none changes nothing of what is pending, of the words, of the disk or of its power; and it is told when the power is gone, too.
+func TestLoadOfNoKindRefused(t *testing.T) {
+	r := fresh(t, 3)
+	r.patch(5, 0, 1, 0)
+	r.later([]int{1}, []int{6}, 0)
+	r.s.Limit(0)
+	was := fmt.Sprint(r.v.Graph().All(), r.d.Image(), r.d.Writes(), r.s.Used())
+	for at := range sectors {
+		r.noLoads(at)
+	}
+	r.same("all", fmt.Sprint(r.v.Graph().All(), r.d.Image(), r.d.Writes(), r.s.Used()), was)
+	r.pending(1, 1)
+	r.says(1, true)
 }
 
 // 17.1: patches get numbers from 1 on, are in the graph as they were handed in, and mark their groups; nothing is written.
