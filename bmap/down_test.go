@@ -166,7 +166,7 @@ func stuck(t *testing.T, l []api.Block, held int) *rig {
 	return r
 }
 
-// 20.1, 20.2, P2: sectors that can't be read, since what must go from the cache can't be written: Find tells ErrDown of a sector of pointers; there is nothing to be told behind it; Put tells it of it and of the inode's, behind all that is told without reading it. Nothing is changed, and when the power is back all is there.
+// 20.1, 20.2, P2: sectors that can't be read, since what must go from the cache can't be written: Find tells ErrDown of a sector of pointers; there is nothing to be told behind it, so that Cost counts what lies there as missing; Put tells it of it and of the inode's, behind all that is told without reading it. Nothing is changed, and when the power is back all is there.
 func TestUnread(t *testing.T) {
 	l := blank(three)
 	l[5], l[6] = sealed(api.KindPtrs, table(map[int]int{0: 7})), sealed(api.KindPtrs, table(map[int]int{0: 5}))
@@ -181,10 +181,11 @@ func TestUnread(t *testing.T) {
 	r.finds(x, 4, 0, api.ErrDown)
 	r.finds(x, 31, 0, api.ErrDown)
 	r.finds(x, 760, 0, api.ErrBig)
-	r.costs(x, 4, 0)
-	r.costs(x, 5, 0)
-	r.costs(x, 31, 0)
+	r.costs(x, 4, 1)
+	r.costs(x, 5, 1)
+	r.costs(x, 31, 1)
 	r.costs(x, 58, 2)
+	r.costs(api.Inode{Double: 5}, 31, 2)
 	r.blocks(x, bmap.Held{K: 0, Sector: 7})
 	r.tables(x, 5, 6, 5)
 	r.tables(api.Inode{Single: 6, Double: 5}, 6, 5)

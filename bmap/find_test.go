@@ -44,7 +44,7 @@ func full() ([]api.Block, api.Inode) {
 // oneGroup is the shape of the disk that full tells.
 var oneGroup = api.Geom{Groups: 1, Inodes: 1, Data: 128}
 
-// 20.1: all blocks of the greatest file, by their ways, whatever a cache holds; none costs anything.
+// 20.1, 20.2: all blocks of the greatest file, by their ways, whatever a cache holds; each costs itself alone, since all that leads to it is there.
 func TestAllBlocks(t *testing.T) {
 	for _, size := range []int{1, 2, 40} {
 		l, x := full()
@@ -52,7 +52,7 @@ func TestAllBlocks(t *testing.T) {
 		var want []bmap.Held
 		for k := range api.MaxBlocks {
 			r.finds(x, k, 1000+k, api.OK)
-			r.costs(x, k, 0)
+			r.costs(x, k, 1)
 			want = append(want, bmap.Held{K: k, Sector: 1000 + k})
 		}
 		r.blocks(x, want...)
@@ -197,7 +197,7 @@ func TestTableIsMissing(t *testing.T) {
 	r.same("tables", bmap.Tables(r.v, x)[12:16], []int{17, 18, 20, 21})
 }
 
-// 20.1, 20.2: a sector of pointers that is not right, or that is none: there are no blocks behind it, none can be hung in there, and it is a sector of pointers of the inode all the same.
+// 20.1, 20.2: a sector of pointers that is not right, or that is none: there are no blocks behind it, and it is a sector of pointers of the inode all the same: it is not missing, but those behind it are.
 func TestNotRight(t *testing.T) {
 	for n, b := range wrong() {
 		for _, at := range []int{5, 6, 7 + 9} {
@@ -216,18 +216,23 @@ func TestNotRight(t *testing.T) {
 		y := x
 		y.Single = none
 		r.finds(y, 4, 0, api.OK)
-		r.costs(y, 4, 0)
+		r.costs(y, 4, 1)
+		r.costs(y, 30, 1)
+		r.costs(y, 31, 1)
 		r.same("blocks", len(bmap.Blocks(r.v, y)), 733)
 		r.same("tables", bmap.Tables(r.v, y)[:3], []int{int(none), 6, 7})
 		y = x
 		y.Double = none
 		r.finds(y, 31, 0, api.OK)
-		r.costs(y, 759, 0)
+		r.costs(y, 31, 2)
+		r.costs(y, 759, 2)
+		r.costs(y, 30, 1)
 		r.same("blocks", len(bmap.Blocks(r.v, y)), 31)
 		r.tables(y, 5, int(none))
 		r.patch(6, 2*5, api.KindPtrs, two(int(none))...)
 		r.finds(x, 31+5*27, 0, api.OK)
-		r.costs(x, 31+5*27, 0)
+		r.costs(x, 31+5*27, 1)
+		r.costs(x, 31+6*27-1, 1)
 		r.same("blocks", len(bmap.Blocks(r.v, x)), 733)
 		r.same("tables", bmap.Tables(r.v, x)[5:9], []int{10, 11, int(none), 13})
 	}
@@ -240,7 +245,11 @@ func (r *rig) without(x api.Inode, at int) {
 	for k := range api.MaxBlocks {
 		w := wayOf(k)
 		behind := at == 5 && len(w) == 2 || at == 6 && len(w) == 3 || at > 6 && len(w) == 3 && w[1] == at-7
-		r.costs(x, k, 0)
+		if at == 6 && behind {
+			r.costs(x, k, 2) // what Double's sector led to is missing
+		} else {
+			r.costs(x, k, 1)
+		}
 		if behind {
 			r.finds(x, k, 0, api.OK)
 			continue
@@ -263,13 +272,15 @@ func TestAsPatchesMakeIt(t *testing.T) {
 	r := fresh(t, one, 9, blank(one))
 	x := api.Inode{Single: 6, Double: 7}
 	r.finds(x, 4, 0, api.OK)
-	r.costs(x, 4, 0)
+	r.costs(x, 4, 1)
+	r.costs(x, 759, 2)
 	r.patch(6, 0, api.KindPtrs, two(300)...)
 	r.finds(x, 4, 300, api.OK)
+	r.costs(x, 4, 1)
 	r.finds(x, 5, 0, api.OK)
 	r.costs(x, 5, 1)
 	r.patch(7, 52, api.KindPtrs, 8)
-	r.costs(x, 759, 0)
+	r.costs(x, 759, 1)
 	r.patch(8, 2, api.KindPtrs, 0, 1)
 	r.finds(x, 31+26*27+1, 256, api.OK)
 	r.costs(x, 759, 1)
@@ -283,11 +294,15 @@ func TestAsPatchesMakeIt(t *testing.T) {
 	r.patch(8, 60, 0, 1, 2)
 	r.finds(x, 4, 9, api.OK)
 	r.finds(x, 734, 0, api.OK)
-	r.costs(x, 734, 0)
+	r.costs(x, 734, 1)
 	r.patch(6, 0, api.KindDir, 9, 0)
 	r.finds(x, 4, 0, api.OK)
 	r.blocks(x)
 	r.tables(x, 6, 7, 8)
+	r.patch(7, 60, 0, 1, 2)
+	r.costs(x, 734, 2)
+	r.costs(x, 759, 2)
+	r.tables(x, 6, 7)
 }
 
 // 20.1: what lies in sector 0 is asked by no pointer that is 0, though it were right as a sector of pointers; sector 1 may be one.
@@ -309,7 +324,8 @@ func TestSectorZero(t *testing.T) {
 			r.blocks(x, bmap.Held{K: 4, Sector: 9}, bmap.Held{K: 5, Sector: 10})
 		} else {
 			r.finds(x, 4, 0, api.OK)
-			r.costs(x, 6, 0)
+			r.costs(x, 6, 1)
+			r.costs(api.Inode{Double: 1}, 31, 2)
 		}
 		r.tables(x, 1)
 	}

@@ -115,11 +115,14 @@ func (r *rig) wantCost(x api.Inode, k int) int {
 	if k < 0 || k > 759 {
 		return 0
 	}
-	l, right := r.walk(x, k)
-	if !right || l[len(l)-1] != 0 {
-		return 0
+	l, _ := r.walk(x, k)
+	n := 1 // the block's own
+	for i := 1; i < len(wayOf(k)); i++ {
+		if i > len(l) || l[i-1] == 0 {
+			n++ // a sector of pointers to which nothing leads
+		}
 	}
-	return len(wayOf(k)) - len(l) + 1
+	return n
 }
 
 // freeBits is all free sectors of data, from a group on, and round.

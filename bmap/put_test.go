@@ -73,7 +73,7 @@ func TestDirect(t *testing.T) {
 		r.is(id+1, load(sector, 0, c.Data, 5, 50+k))
 		r.is(id+2, set(three, 5, 6+2*k, sector, 50+k, id, id+1))
 		r.pending(3 * (n + 1))
-		r.costs(r.inode(5), k, 0)
+		r.costs(r.inode(5), k, 1)
 	}
 	r.same("the inode", r.inode(5), api.Inode{Direct: [4]uint16{18, 20, 17, 19}})
 	r.same("the others", []any{r.inode(4), r.inode(6)}, []any{api.Inode{}, api.Inode{}})
