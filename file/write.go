@@ -47,8 +47,10 @@ func (s stretch) prepare() api.Errno {
 	if e != api.OK {
 		return e
 	}
-	if free, _ := alloc.Avail(s.v); free < len(due) {
-		return api.ErrSpace
+	if len(due) > 0 {
+		if free, _ := alloc.Avail(s.v); free < len(due) {
+			return api.ErrSpace
+		}
 	}
 	changed, e := s.changed()
 	if e != api.OK {

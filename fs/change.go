@@ -15,7 +15,7 @@ func (f *FS) making(at spot) (deed, api.Errno) {
 	if e != api.OK {
 		return deed{}, e
 	}
-	source, e := f.sources(alloc.Group(f.Vol(), at.dir), 0, 1)
+	source, e := f.source(alloc.Group(f.Vol(), at.dir))
 	if e != api.OK {
 		return deed{}, e
 	}
@@ -44,6 +44,10 @@ func (f *FS) removing(at spot, needs ...int) (deed, api.Errno) {
 	if e != api.OK {
 		return deed{}, e
 	}
+	in, e := f.entry(at)
+	if e != api.OK {
+		return deed{}, e
+	}
 	d := does(func() api.Errno {
 		taken, e := dir.Take(f.Vol(), at.dir, at.name, needs...)
 		if e != api.OK {
@@ -51,7 +55,7 @@ func (f *FS) removing(at spot, needs ...int) (deed, api.Errno) {
 		}
 		return f.lose(at.ino, taken)
 	})
-	d.marks = append(l, f.entry(at))
+	d.patches, d.marks = true, append(l, in)
 	return d, api.OK
 }
 

@@ -5,12 +5,14 @@ import (
 
 	"scupper/api"
 	"scupper/dir"
+	"scupper/geom"
 	"scupper/itab"
 )
 
-// deed is what is asked, once it has no error but that of space: what it takes, the sectors whose groups it marks, and how it is done.
+// deed is what is asked, once it has no error but that of space: what it takes, whether it makes patches, the sectors whose groups it marks, and how it is done. Whoever makes one that makes patches reads all that is read when it is done.
 type deed struct {
 	sectors, inodes int
+	patches         bool
 	marks           []int
 	do              func() (api.Answer, api.Errno)
 }
@@ -47,7 +49,7 @@ func (f *FS) deed(o api.Op) (deed, api.Errno) {
 	case api.OpFsync:
 		return f.fsync(o)
 	case api.OpSync:
-		return f.settling(func() api.Errno { return f.Sync(f.nameless()...) }), api.OK
+		return does(f.sync), api.OK
 	}
 	return deed{}, api.ErrArg
 }
@@ -111,29 +113,34 @@ func (f *FS) fsync(o api.Op) (deed, api.Errno) {
 		ids = append(ids, f.By(ino)...)
 		ids = append(ids, f.About(ino)...)
 	}
-	return f.settling(func() api.Errno { return f.Settle(ids...) }), api.OK
+	return does(func() api.Errno { return f.Settle(ids...) }), api.OK
 }
 
-// settling is the deed of what settles patches. Where it is cut off the cache can be left with a sector that could not be written, and that would keep others from being read. The patches that it has are in the graph still; so the cache is emptied, but where it had what is somebody else's.
-func (f *FS) settling(do func() api.Errno) deed {
-	return does(func() api.Errno {
-		was := f.Changed()
-		e := do()
-		if e != api.OK && len(was) == 0 {
-			f.Drop()
-		}
+// sync settles all, and lets the words say the groups of what has no names: they stay marked, that what is open now be found when it is open no more.
+func (f *FS) sync() api.Errno {
+	keep, e := f.nameless()
+	if e != api.OK {
 		return e
-	})
+	}
+	return f.Sync(keep...)
 }
 
-// nameless is the sectors of all inodes without names, and of what these have: their groups stay marked, that what is open now be found when it is open no more.
-func (f *FS) nameless() []int {
+// nameless is the sectors of all inodes without names, and of what these have.
+func (f *FS) nameless() ([]int, api.Errno) {
 	var l []int
-	for _, ino := range itab.All(f.Vol()) {
-		// An inode that is in use can be told.
-		if x, _ := itab.Load(f.Vol(), ino); x.Links == 0 {
-			l = append(append(l, f.sector(ino)), f.held(x)...)
+	for i := range geom.Inodes(f.Geom()) {
+		ino := i + 1 // inodes are numbered from 1 on
+		x, e := itab.Load(f.Vol(), ino)
+		if isUnread(e) {
+			return nil, e
 		}
+		if x.Kind == api.InodeFree || x.Links > 0 {
+			continue
+		}
+		if e := f.tables(x); e != api.OK {
+			return nil, e
+		}
+		l = append(append(l, f.sector(ino)), f.held(x)...)
 	}
-	return l
+	return l, api.OK
 }

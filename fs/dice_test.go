@@ -323,3 +323,66 @@ func TestDicePower(t *testing.T) {
 		t.Error("the power was gone only so often: ", gone)
 	}
 }
+
+// 26.1, 26.3, 26.4, P2: calls behind a sync that is cut off, with all groups marked, so that they need power for nothing but what the cache could not write: each is done as the tree does it, or tells ErrDown and leaves nothing. With a cache in which all has room none tells that, but such as settle.
+func TestDiceStuck(t *testing.T) {
+	downs, dones := 0, 0
+	for seed := range int64(400) {
+		d := rand.New(rand.NewSource(seed))
+		g := []api.Geom{three, {Groups: 5, Inodes: 1, Data: 7}, {Groups: 8, Inodes: 1, Data: 5}, {Groups: 1, Inodes: 2, Data: 50}}[seed%4]
+		size := 1 + d.Intn(12)
+		if seed%7 == 0 {
+			size = 64
+		}
+		w := newTwin(t, size, blank(g))
+		for range 40 + d.Intn(40) {
+			w.step(throw(d))
+		}
+		for range 4 {
+			w.w.Keep(255)
+			for range d.Intn(6) {
+				w.step(throw(d))
+			}
+			w.same("Keep", w.w.Keep(255), api.OK)
+			w.s.Limit(d.Intn(6))
+			w.f.Do(sync())
+			for range 12 {
+				o := throw(d)
+				was := w.v.Changed()
+				graph := w.graph()
+				w.dim(o)
+				switch {
+				case w.graph() != graph:
+					dones++
+				case len(was) > 0:
+					downs++
+				}
+			}
+			if len(w.v.Changed()) > 0 && size == 64 {
+				w.roomy(d)
+			}
+			w.s.Restore()
+			w.hold()
+		}
+		w.step(sync())
+		w.hold()
+		if t.Failed() {
+			t.Fatal("seed ", seed, ", shape ", g, ", size ", size)
+		}
+	}
+	if downs < 1000 || dones < 1000 {
+		t.Error("refused, and done, only so often: ", downs, dones)
+	}
+}
+
+// roomy does ops, none of which settles, where all has room in the cache: no power is needed.
+func (w *twin) roomy(d *rand.Rand) {
+	w.t.Helper()
+	for range 10 {
+		o := throw(d)
+		if o.Kind == api.OpSync || o.Kind == api.OpFsync {
+			continue
+		}
+		w.step(o)
+	}
+}

@@ -3,8 +3,11 @@ package fs_test
 import (
 	"fmt"
 	"math/bits"
+	"math/rand"
+	"slices"
 	"testing"
 
+	"scupper/alloc"
 	"scupper/api"
 	"scupper/fs"
 	"scupper/nvram"
@@ -124,9 +127,12 @@ func feats() []feat {
 }
 
 // began is a rig on which a feat can be asked for.
-func (c feat) began(t *testing.T) *rig {
+func (c feat) began(t *testing.T) *rig { return c.beganWith(t, 9) }
+
+// beganWith is one with a cache of that size.
+func (c feat) beganWith(t *testing.T, size int) *rig {
 	t.Helper()
-	r := fresh(t, 9, c.disk)
+	r := fresh(t, size, c.disk)
 	for _, o := range c.first {
 		r.f.Do(o)
 	}
@@ -364,6 +370,111 @@ func TestRound(t *testing.T) {
 	r.refuses(api.ErrNotEmpty, rmdir("/d/d"), rmdir("/d/up"), rename("/d/e", "/r"), rename("/d/e", "/d/d"))
 }
 
+// moreFeats is feats, and such as read more sectors than these: of files with sectors of pointers.
+func moreFeats() []feat {
+	m := blank(three)
+	m.dir(1, names(ent(2, "f"), ent(3, "g"), ent(4, "k")))
+	x := api.Inode{Kind: isFile, Links: 1, Size: 64 * 140}
+	for _, k := range []int{3, 5, 30, 31, 57, 58, 85, 112, 139} {
+		m.hang(k%3, &x, k, m.take(k%2))
+	}
+	m.set(2, x)
+	m.set(3, api.Inode{Kind: isFile, Links: 1, Size: 1})
+	m.dir(4)
+	held := []api.Op{opening("/f", 3), opening("/g", 3)}
+	from := func(k int) []api.Op { return append(slices.Clone(held), seek(0, 64*k), seek(1, 64*k)) }
+	full := names(ent(2, "1"), ent(2, "2"), ent(2, "3"), ent(2, "4"))
+	l := blank(three)
+	l.dir(1, full, names(ent(2, "5"), ent(2, "6"), ent(2, "7"), ent(2, "8")), full, names(ent(2, "9"), ent(2, "x"), ent(2, "y"), ent(2, "z")))
+	l.set(2, api.Inode{Kind: isFile, Links: 16, Size: 7})
+	return append(feats(),
+		feat{"a write over all kinds of ways", m, from(30), write(0, text(64*2)), 7},
+		feat{"one over two sectors of pointers", m, from(57), write(0, text(64*2)), 7},
+		feat{"one that hangs in", m, from(29), write(0, text(64*4)), 7},
+		feat{"one that hangs in sectors of pointers", m, from(30), write(1, text(64*2)), 7},
+		feat{"one more", m, from(57), write(1, text(64*2)), 7},
+		feat{"one that is cut to nothing", m, held, opening("/f", forWrite|cutting), 7},
+		feat{"one that is cut a bit", m, held, cut("/f", 64*58-3), 7},
+		feat{"one that is cut within Single", m, held, cut("/f", 64*5+3), 7},
+		feat{"one that grows", m, held, cut("/f", 64*150), 7},
+		feat{"the last name of what has sectors of pointers", m, nil, unlink("/f"), 7},
+		feat{"of what is open, too", m, held, unlink("/f"), 7},
+		feat{"which is closed", m, append(slices.Clone(held), unlink("/f")), closing(0), 7},
+		feat{"a rename onto it", m, held, rename("/g", "/f"), 7},
+		feat{"a rename into another directory", m, held, rename("/f", "/k/f"), 7},
+		feat{"a link in a directory with many blocks", l, nil, link("/z", "/new"), 7},
+		feat{"a rename there", l, nil, rename("/z", "/new"), 7},
+		feat{"a directory there", l, nil, mkdir("/new"), 7},
+		feat{"a rename there onto another", l, nil, rename("/z", "/5"), 7},
+		feat{"a name there", l, nil, unlink("/z"), 7},
+	)
+}
+
+// 26.1, P2: a sector in the cache that can't be written, whichever it is, with a cache of any size: what is asked is done as a whole, or tells ErrDown, and leaves nothing. With a cache in which all has room it is done. What is pinned stays so.
+func TestStuckAnywhere(t *testing.T) {
+	d := rand.New(rand.NewSource(1))
+	done, downs := 0, 0
+	for _, c := range moreFeats() {
+		whole := c.began(t)
+		want := whole.f.Do(c.o)
+		whole.same("it", want.Err, api.OK)
+		after := whole.graph()
+		whole.done(sync())
+		sectors, inodes := alloc.Avail(whole.v)
+		r := c.began(t)
+		was, next, opened := r.graph(), r.next(), r.opened()
+		for sector := 2; sector < r.d.Len(); sector++ {
+			for size := 1; size < 14; size++ {
+				r := c.beganWith(t, size)
+				if size == 13 {
+					r = c.beganWith(t, 40)
+				}
+				units := r.sticks(d, sector, size)
+				a := r.f.Do(c.o)
+				switch {
+				case alike(a, want):
+					done++
+					r.same("all patches", r.graph() == after, true)
+					r.s.Restore()
+					r.done(sync())
+					r.free(sectors, inodes)
+				case alike(a, api.Answer{Err: api.ErrDown}) && (size < 13 || units > 0):
+					downs++
+					r.same("what is left", []any{r.graph() == was, r.next(), r.opened()}, []any{true, next, opened})
+				default:
+					t.Error("it: ", a)
+				}
+				if t.Failed() {
+					t.Fatal(c.name, ": sector ", sector, ", size ", size, ", units ", units)
+				}
+			}
+		}
+	}
+	if done < 5000 || downs < 5000 {
+		t.Error("done, and refused, only so often: ", done, downs)
+	}
+}
+
+// sticks lets the cache have a sector changed, with others read ahead of it and behind it; and lets there be power for so many units: none, where all groups are marked.
+func (r *rig) sticks(d *rand.Rand, sector, size int) int {
+	r.t.Helper()
+	reads := func(n int) {
+		for range n {
+			r.v.Get(2 + d.Intn(r.d.Len()-2))
+		}
+	}
+	units := max(d.Intn(20)-9, 0)
+	if units == 0 {
+		r.same("Keep", r.w.Keep(7), api.OK)
+	}
+	reads(d.Intn(size + 1))
+	b, _ := r.v.Get(sector)
+	r.same("Put", r.v.Put(sector, b), api.OK)
+	r.s.Limit(units)
+	reads(d.Intn(size))
+	return units
+}
+
 // stuck is a rig whose cache holds as many sectors as these and one more, which is changed and can't go, as there is no power; all groups are marked. Ahead of it the cache holds these, the last one used last.
 func stuck(t *testing.T, m *image, first []api.Op, held ...int) *rig {
 	t.Helper()
@@ -459,4 +570,95 @@ func TestUnreadPointers(t *testing.T) {
 		r := stuck(t, m, first, int(x.Single), int(x.Double), inner, 4, 5)
 		r.done(unlink("/f"))
 	}
+}
+
+// 26.1: what need not be read keeps nothing from being done: no maps where nothing is taken, no sectors of pointers where a file grows.
+func TestUnreadNotNeeded(t *testing.T) {
+	m := blank(three)
+	m.dir(1, names(ent(2, "f")))
+	x := api.Inode{Kind: isFile, Links: 1, Size: 64 * 5}
+	for k := range 5 {
+		m.hang(0, &x, k, m.take(0))
+	}
+	m.set(2, x)
+	first := []api.Op{opening("/f", 3)}
+	r := stuck(t, m, first, 4, 5)
+	r.want(write(0, text(256)), api.Answer{N: 256})
+	r.same("patches", len(r.v.By(2)), 4)
+	r = stuck(t, m, first, 4, 5)
+	r.done(cut("/f", 64*9))
+	r.want(cut("/f", 64*3), api.Answer{Err: api.ErrDown})
+	r.want(opening("/f", forWrite|cutting), api.Answer{Err: api.ErrDown})
+	r.want(opening("/f", forWrite), api.Answer{N: 1})
+}
+
+// 26.4: where it can't be read what is free nobody knows that there is no space.
+func TestUnreadSpace(t *testing.T) {
+	m := house().fill(0, 3).fillInodes(3)
+	for _, c := range []struct {
+		o    api.Op
+		held []int
+	}{
+		{mkdir("/x"), []int{3, 4, 5}},
+		{mkdir("/x"), []int{3, 4, 5, 15}},
+		{opening("/x", 7), []int{3, 27, 4, 5}},
+	} {
+		r := stuck(t, m, nil, c.held...)
+		graph := r.graph()
+		r.want(c.o, api.Answer{Err: api.ErrDown})
+		r.same("the graph", r.graph() == graph, true)
+	}
+	r := stuck(t, m, nil, 3, 15, 27, 4, 5)
+	r.done(mkdir("/x"))
+}
+
+// 26.1, P2: a cache in which all is pinned, so that nothing else can be held: ErrFull, as it comes, and nothing is done.
+func TestPinnedAll(t *testing.T) {
+	m := house()
+	x := api.Inode{Kind: isFile, Links: 1, Size: 64 * 5}
+	m.hang(0, &x, 4, m.take(0))
+	m.set(2, x)
+	pinned := func(first []api.Op, sectors ...int) *rig {
+		r := fresh(t, len(sectors), m)
+		for _, o := range first {
+			r.f.Do(o)
+		}
+		r.done(sync())
+		for _, sector := range sectors {
+			_, e := r.v.Get(sector)
+			r.same("Get, Pin", []any{e, r.v.Pin(sector)}, []any{api.OK, api.OK})
+		}
+		return r
+	}
+	refuses := func(r *rig, l ...api.Op) {
+		t.Helper()
+		words, graph := fmt.Sprint(r.w.Says()), r.graph()
+		for _, o := range l {
+			r.want(o, api.Answer{Err: api.ErrFull})
+		}
+		r.same("what is left", []any{fmt.Sprint(r.w.Says()), r.graph() == graph}, []any{words, true})
+	}
+	refuses(pinned(nil, 9), stat("/g"), list("/"), mkdir("/x"), opening("/x", 7), unlink("/g"))
+	refuses(pinned(nil, 4), stat("/g"), list("/"), mkdir("/x"), opening("/x", 7), unlink("/g"))
+	r := pinned(nil, 4, 5)
+	r.want(stat("/g"), api.Answer{Stat: api.Stat{Kind: isFile, Size: 320, Links: 1}})
+	refuses(r, stat("/d"), mkdir("/x"), unlink("/g"), rename("/d/f", "/g"), cut("/g", 3), opening("/g", forWrite|cutting), link("/g", "/d/x"))
+	r.done(link("/g", "/x"), unlink("/g"))
+	// What is open, and whether other directories are above it; what has no names, but sectors of pointers.
+	r = pinned([]api.Op{opening("/g", 3), seek(0, 256)}, 4, 5)
+	refuses(r, read(0, 1), write(0, "a"), fsync(0), sync())
+	r = pinned([]api.Op{opening("/g", 3), unlink("/g"), sync()}, 4, 16, 28)
+	refuses(r, sync(), closing(0))
+	r.says(1, true)
+	r = pinned([]api.Op{opening("/g", 3), unlink("/g"), sync()}, 4, 16, 28, int(x.Single))
+	r.done(sync())
+	r.says(1, true)
+}
+
+// 26.4: an inode that is in use no more, though it is open: ErrArg, also where there is no space.
+func TestNoneIsOpen(t *testing.T) {
+	r := fresh(t, 9, house().fill(0, 0))
+	r.open("/g", 3, 0)
+	r.patch(4, 18, api.KindInode, make([]byte, 18)...)
+	r.refuses(api.ErrArg, write(0, "a"), write(0, ""), read(0, 1))
 }

@@ -23,10 +23,7 @@ func (f *FS) openFile(o api.Op) (deed, api.Errno) {
 	if f.open.Full() {
 		return deed{}, api.ErrFiles
 	}
-	var d deed
-	if at.ino == 0 {
-		d, e = f.making(at)
-	}
+	d, e := f.becoming(at, x, o.Flags)
 	d.do = func() (api.Answer, api.Errno) {
 		e, ino := api.OK, at.ino
 		if ino == 0 {
@@ -41,6 +38,17 @@ func (f *FS) openFile(o api.Op) (deed, api.Errno) {
 		return api.Answer{N: fd}, e
 	}
 	return d, e
+}
+
+// becoming is what it takes that the file at a spot, x if it is there, is opened by such flags.
+func (f *FS) becoming(at spot, x api.Inode, flags int) (deed, api.Errno) {
+	switch {
+	case at.ino == 0:
+		return f.making(at)
+	case flags&api.FlagCut != 0 && x.Size != 0:
+		return deed{patches: true}, f.tables(x)
+	}
+	return deed{}, api.OK
 }
 
 // mayFlag tells whether a file can be opened by such flags.
@@ -81,8 +89,12 @@ func (f *FS) closeFile(o api.Op) (deed, api.Errno) {
 	if e != api.OK {
 		return deed{}, e
 	}
-	return does(func() api.Errno {
-		if x.Links == 0 && f.open.Count(opened.Ino) == 1 {
+	last := x.Links == 0 && f.open.Count(opened.Ino) == 1
+	if last {
+		e = f.tables(x)
+	}
+	d := does(func() api.Errno {
+		if last {
 			// The place comes behind: where the file can't be dropped it stays open.
 			if e := f.drop(opened.Ino); e != api.OK {
 				return e
@@ -90,7 +102,9 @@ func (f *FS) closeFile(o api.Op) (deed, api.Errno) {
 		}
 		_, e := f.open.Close(o.Fd)
 		return e
-	}), api.OK
+	})
+	d.patches = last
+	return d, e
 }
 
 // opened is the file at a place of the table, if it was opened for that.
@@ -140,25 +154,22 @@ func (f *FS) write(o api.Op) (deed, api.Errno) {
 	if e != api.OK {
 		return deed{}, e
 	}
-	if e := f.passes(opened.Ino, x, opened.Pos, end); e != api.OK {
+	if x.Kind == api.InodeFree {
+		return deed{}, api.ErrArg // layer 21 writes to no such inode
+	}
+	taking, e := f.taking(opened.Ino, x, opened.Pos, end)
+	if e != api.OK {
 		return deed{}, e
 	}
-	return deed{sectors: file.Cost(f.Vol(), x, opened.Pos, len(o.Data)), do: func() (api.Answer, api.Errno) {
+	if _, e := f.next(opened.Ino, taking); e != api.OK {
+		return deed{}, e
+	}
+	return deed{sectors: len(taking), patches: len(o.Data) > 0, do: func() (api.Answer, api.Errno) {
 		if e := file.Write(f.Vol(), opened.Ino, opened.Pos, o.Data); e != api.OK {
 			return api.Answer{}, e
 		}
 		return api.Answer{N: len(o.Data)}, f.open.Seek(o.Fd, end)
 	}}, api.OK
-}
-
-// passes tells why the pointers to the blocks between two places of a file can't be told. Layer 21 tells of some of that behind ErrSpace, which here comes last.
-func (f *FS) passes(ino int, x api.Inode, from, to int) api.Errno {
-	for k := from / api.Sector; from < to && k*api.Sector < to; k++ {
-		if _, _, e := f.pointer(ino, x, k); e != api.OK {
-			return e
-		}
-	}
-	return api.OK
 }
 
 // seek moves to a place of a file, be it beyond its end or not.
@@ -187,5 +198,12 @@ func (f *FS) cut(o api.Op) (deed, api.Errno) {
 	case o.N > api.MaxSize:
 		return deed{}, api.ErrBig
 	}
-	return does(func() api.Errno { return file.Cut(f.Vol(), ino, o.N) }), api.OK
+	if o.N < int(x.Size) {
+		if e := f.tables(x); e != api.OK {
+			return deed{}, e
+		}
+	}
+	d := does(func() api.Errno { return file.Cut(f.Vol(), ino, o.N) })
+	d.patches = true
+	return d, api.OK
 }

@@ -25,7 +25,11 @@ func (f *FS) rename(o api.Op) (deed, api.Errno) {
 	if e != api.OK {
 		return deed{}, e
 	}
-	d.marks = append(d.marks, f.sector(from.ino), f.entry(from))
+	was, e := f.entry(from)
+	if e != api.OK {
+		return deed{}, e
+	}
+	d.marks = append(d.marks, f.sector(from.ino), was)
 	d.do = func() (api.Answer, api.Errno) { return api.Answer{}, f.move(from, to, x) }
 	return d, api.OK
 }
@@ -107,7 +111,14 @@ func (f *FS) coming(to spot) (deed, api.Errno) {
 		return f.adding(to.dir)
 	}
 	l, e := f.losing(to.ino)
-	return deed{marks: append(l, f.entry(to))}, e
+	if e != api.OK {
+		return deed{}, e
+	}
+	in, e := f.entry(to)
+	if e != api.OK {
+		return deed{}, e
+	}
+	return deed{patches: true, marks: append(l, in)}, api.OK
 }
 
 // move renames the inode x. It has both names for a while, and a link more: whenever the power goes one name is there, and never too few links.

@@ -241,9 +241,9 @@ func TestSyncKeepsDir(t *testing.T) {
 	r.says(2, true)
 }
 
-// 26.1, P2: without power: ErrDown, as it comes; what settled is settled, all is as it was, and when the power is back it goes on. What is told needs no power, with the least of caches, too.
+// 26.1, P2: without power: ErrDown, as it comes; what settled is settled, all is as it was, and when the power is back it goes on. What is held is told without power.
 func TestSyncDown(t *testing.T) {
-	for _, size := range []int{1, 2, 9} {
+	for _, size := range []int{1, 2, 9, 40} {
 		for _, o := range []api.Op{sync(), fsync(0)} {
 			run := func(units int) int {
 				r := fresh(t, size, house())
@@ -261,10 +261,11 @@ func TestSyncDown(t *testing.T) {
 					r.same("told", []any{a, r.s.Gone()}, []any{api.Answer{Err: api.ErrDown}, true})
 				}
 				r.same("no patch is made", r.next() >= 20, true)
-				r.want(list("/d/e"), api.Answer{Names: []string{"f", "g", "x"}})
-				r.want(seek(0, 1), api.Answer{N: 1})
-				r.want(read(0, 199), api.Answer{Data: []byte(text(200)[1:])})
-				r.want(stat("/d/e/g"), api.Answer{Stat: api.Stat{Kind: isFile, Links: 1}})
+				r.tells(size < 40,
+					list("/d/e"), api.Answer{Names: []string{"f", "g", "x"}},
+					seek(0, 1), api.Answer{N: 1},
+					read(0, 199), api.Answer{Data: []byte(text(200)[1:])},
+					stat("/d/e/g"), api.Answer{Stat: api.Stat{Kind: isFile, Links: 1}})
 				if units == 0 {
 					r.same("the graph", r.graph(), graph)
 				}
@@ -284,6 +285,82 @@ func TestSyncDown(t *testing.T) {
 			}
 		}
 	}
+}
+
+// tells wants answers, one behind each op; or, where that may be, ErrDown alone.
+func (r *rig) tells(down bool, l ...any) {
+	r.t.Helper()
+	for i := 0; i < len(l); i += 2 {
+		o, want := l[i].(api.Op), l[i+1].(api.Answer)
+		a := r.f.Do(o)
+		if !alike(a, want) && !(down && alike(a, api.Answer{Err: api.ErrDown})) {
+			r.t.Errorf("%s: %+v, want %+v", short(o), a, want)
+		}
+	}
+}
+
+// 26.1, P2: behind a sync and an fsync that are cut off all is as layer 17 leaves it behind a settling of the same patches: what is held, changed and pinned, and what each sector is; also with the least of caches, and where it is cut off once more.
+func TestSyncDownAsLayer17(t *testing.T) {
+	for _, size := range []int{1, 2, 3, 9, 40} {
+		for _, o := range []api.Op{sync(), fsync(0)} {
+			for units := range 40 {
+				a, b := fresh(t, size, house()), fresh(t, size, house())
+				for _, r := range []*rig{a, b} {
+					r.open("/d/f", 3, 0)
+					r.want(write(0, text(200)), api.Answer{N: 200})
+					r.done(mkdir("/d/e/x"), link("/d/f", "/d/e/f"), unlink("/d/f"), unlink("/d/e/f"), rename("/g", "/d/e/g"))
+					r.pins(size, 33)
+					r.s.Limit(units)
+				}
+				for range 2 {
+					want := api.Answer{Err: b.likewise(o)}
+					if size < 40 && want.Err == api.OK {
+						continue
+					}
+					a.want(o, want)
+					a.same("changed", a.v.Changed(), b.v.Changed())
+					if size == 40 {
+						x, y := a.v.Held(), b.v.Held()
+						slices.Sort(x)
+						slices.Sort(y)
+						a.same("held", x, y)
+					}
+					if size > 1 {
+						a.same("Unpin", []any{a.v.Unpin(33), a.v.Unpin(33)}, []any{api.OK, api.ErrNone})
+						a.same("Pin", []any{a.v.Pin(33), b.v.Unpin(33), b.v.Pin(33)}, []any{api.OK, api.OK, api.OK})
+					}
+					a.same("all", a.state() == b.state(), true)
+					if size < 40 {
+						break // what can't be read any more, to know what to settle, is not settled once more
+					}
+				}
+				if t.Failed() {
+					t.Fatal(short(o), " with power for ", units, ", and a cache of ", size)
+				}
+			}
+		}
+	}
+}
+
+// pins holds and pins a sector, if there is room for others beside it.
+func (r *rig) pins(size, sector int) {
+	if size > 1 {
+		_, e := r.v.Get(sector)
+		r.same("Get, Pin", []any{e, r.v.Pin(sector)}, []any{api.OK, api.OK})
+	}
+}
+
+// likewise does what layer 17 does for a sync, or for an fsync of place 0.
+func (r *rig) likewise(o api.Op) api.Errno {
+	if o.Kind == api.OpSync {
+		return r.v.Sync(r.nameless()...)
+	}
+	file, _ := r.f.Open().Get(0)
+	var ids []int
+	for _, ino := range append(r.allAbove(file.Ino), file.Ino) {
+		ids = append(append(ids, r.v.By(ino)...), r.v.About(ino)...)
+	}
+	return r.v.Settle(ids...)
 }
 
 // 26.1: what somebody else put into the cache is left there, when a sync is cut off.
